@@ -1,0 +1,1 @@
+"""Arms told in words: read strictly and held to the old rule of colours."""
