@@ -1,7 +1,9 @@
 """The calls."""
 
-from armstold.reading import CannotStand, read_text
+from armstold.reading import CannotStand, read_words
 from armstold.rule import count_items, count_offending, depth_of
+from armstold.words import words_of
+from armstold.writing import written
 
 MOST_BYTES = 65536
 
@@ -11,7 +13,22 @@ def bl_check(text):
     if len(text) > MOST_BYTES:
         return [-2]
     try:
-        arms = read_text(text)
+        arms = read_words(words_of(text))
     except CannotStand as e:
         return [-3 - e.place]
     return [0, count_items(arms), count_offending(arms), depth_of(arms)]
+
+
+def bl_write(most, text):
+    """Answers how many bytes the text has in its one form, then these; or a refusal alone."""
+    if most < 0 or len(text) > MOST_BYTES:
+        return [-2]
+    words = words_of(text)
+    try:
+        read_words(words)
+    except CannotStand as e:
+        return [-3 - e.place]
+    row = written(words)
+    if len(row) > most:
+        return [-1]
+    return [len(row)] + row

@@ -1,7 +1,6 @@
 """Reads words strictly, as arms."""
 
 from armstold.parts import PLAIN, Arms, Field, Item
-from armstold.words import words_of
 
 TINCTURES = ("or", "argent", "gules", "azure", "sable", "vert", "purpure", "ermine", "vair")
 PARTINGS = ("pale", "fess", "bend", "chevron", "saltire")
@@ -115,10 +114,10 @@ def read_arms(reader, depth):
     return Arms(field, borne)
 
 
-def read_text(text):
-    """The arms that a whole text tells; raises CannotStand at the first place that is wrong."""
-    reader = Reader(words_of(text))
+def read_words(words):
+    """The arms that all words of a text tell; raises CannotStand at the first place that is wrong."""
+    reader = Reader(words)
     arms = read_arms(reader, 1)
-    if reader.place < len(reader.words):
+    if reader.place < len(words):
         raise CannotStand(reader.place)
     return arms

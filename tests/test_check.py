@@ -1,23 +1,17 @@
 """Promise 1: bl_check, its refusals and its three numbers, by answers worked out by hand."""
 
-import contextlib
-import io
 import unittest
 
 from armstold.arms import bl_check
+from kept import Kept
+from samples import CHARGES, ORDINARIES, PARTINGS, TINCTURES, VARIATIONS, WORDS_2000, WRONG, bytes_of, nested
 
-TINCTURES = ["or", "argent", "gules", "azure", "sable", "vert", "purpure", "ermine", "vair"]
 METALS = TINCTURES[:2]
 COLOURS = TINCTURES[2:7]
-ORDINARIES = ["fess", "pale", "bend", "bend sinister", "chevron", "cross", "saltire", "chief", "bordure"]
-CHARGES = ["roundel", "annulet", "lozenge", "billet", "delf", "crosslet"]
-PARTINGS = ["per pale", "per fess", "per bend", "per chevron", "per saltire", "per bend sinister", "quarterly"]
-VARIATIONS = ["barry", "paly", "bendy", "chequy", "lozengy"]
-ALL_NUMBERS = ["two", "three", "four", "five", "six", "eight", "ten", "twelve"]
 
 
 def check(text):
-    return bl_check(list(text.encode("latin-1")))
+    return bl_check(bytes_of(text))
 
 
 class Case(unittest.TestCase):
@@ -140,11 +134,6 @@ class Offending(Case):
         self.answers("per pale (per fess (gules, a delf vert) and or, a fess or) and or", [0, 2, 1, 3])
 
 
-def nested(depth, inner="or"):
-    """Arms that are so deep within arms; each ( stands 3 words behind the one before, from word 2 on."""
-    return "per pale (" * (depth - 1) + inner + ") and gules" * (depth - 1)
-
-
 class Depth(Case):
     def test_up_to_six(self):
         for depth in range(1, 7):
@@ -253,6 +242,10 @@ class Numbers(Case):
 
 
 class Refused(Case):
+    def test_at_each_kind_of_place(self):
+        for text, word in WRONG:
+            self.refused_at(text, word)
+
     def test_where_a_field_stands(self):
         for word in ["a", "and", "of", "(", ")", ",", "sinister", "pale", "fess", "two", "roundel", "x", "orr", "o"]:
             self.refused_at(word, 0)
@@ -359,10 +352,6 @@ class OtherBytes(Case):
         self.refused_at("or, a Fess gules", 3)
 
 
-# 1 + 496 * 4 + 3 * 5 words.
-WORDS_2000 = "or" + ", a fess gules" * 496 + ", a bend sinister argent" * 3
-
-
 class Lengths(Case):
     def test_two_thousand_words(self):
         self.answers(WORDS_2000, [0, 499, 3, 1])
@@ -406,52 +395,12 @@ class Lengths(Case):
         self.assertEqual(check(" " * 65537), [-2])
 
 
-class Calls(Case):
-    TEXTS = [
-        "",
-        "or",
-        "per pale (or, a fess argent) and gules",
-        "or, a fess",
-        "or \t",
-        WORDS_2000,
-        WORDS_2000 + " x",
-        nested(6),
-        nested(7),
-        " " * 65537,
-    ]
+class Calls(Kept, unittest.TestCase):
+    def call(self, handed):
+        return bl_check(handed)
 
-    def test_the_list_handed_in_is_the_same_afterwards(self):
-        for text in self.TEXTS:
-            handed = list(text.encode())
-            before = list(handed)
-            bl_check(handed)
-            self.assertEqual(handed, before)
-
-    def test_a_second_call_answers_what_the_first_did(self):
-        first = [check(text) for text in self.TEXTS]
-        self.assertEqual([check(text) for text in self.TEXTS], first)
-        self.assertEqual([check(text) for text in reversed(self.TEXTS)], first[::-1])
-
-    def test_a_changed_answer_changes_no_later_one(self):
-        check("or").append(7)
-        self.assertEqual(check("or"), [0, 0, 0, 1])
-        check("x").append(7)
-        self.assertEqual(check("x"), [-3])
-
-    def test_answers_are_lists_of_whole_numbers(self):
-        for text in self.TEXTS:
-            answer = check(text)
-            self.assertIs(type(answer), list)
-            self.assertEqual(len(answer), 1 if answer[0] < 0 else 4)
-            for number in answer:
-                self.assertIs(type(number), int)
-
-    def test_nothing_is_printed(self):
-        out = io.StringIO()
-        with contextlib.redirect_stdout(out), contextlib.redirect_stderr(out):
-            for text in self.TEXTS:
-                check(text)
-        self.assertEqual(out.getvalue(), "")
+    def length(self, text, first):
+        return 4
 
 
 if __name__ == "__main__":
