@@ -1,11 +1,13 @@
 """The calls."""
 
+from armstold.drawing import drawn_cells
 from armstold.reading import CannotStand, read_words
 from armstold.rule import count_items, count_offending, depth_of
 from armstold.words import words_of
 from armstold.writing import written
 
 MOST_BYTES = 65536
+LONGEST_SIDE = 1024
 
 
 def bl_check(text):
@@ -32,3 +34,14 @@ def bl_write(most, text):
     if len(row) > most:
         return [-1]
     return [len(row)] + row
+
+
+def bl_draw(wide, high, shield, text):
+    """Answers 0, then each cell's tincture, row by row; or a refusal alone."""
+    if not 1 <= wide <= LONGEST_SIDE or not 1 <= high <= LONGEST_SIDE or len(text) > MOST_BYTES:
+        return [-2]
+    try:
+        arms = read_words(words_of(text))
+    except CannotStand as e:
+        return [-3 - e.place]
+    return [0] + drawn_cells(arms, wide, high, shield)

@@ -71,3 +71,34 @@ def nested(depth, inner="or"):
 
 def bytes_of(text):
     return list(text.encode("latin-1"))
+
+
+# Every form of field and every item, each with some tincture or other.
+FIELDS = TINCTURES + [f"{parting} ermine and vair" for parting in PARTINGS] + [
+    f"{variation} of {number} vair and sable" for variation in VARIATIONS for number in NUMBERS_BEHIND_OF
+]
+ITEMS = [f"a {name} gules" for name in ORDINARIES + CHARGES] + [
+    f"{number} {charge}s vair" for charge in CHARGES for number in NUMBERS_OF_CHARGES
+]
+
+
+def some_item(source):
+    tincture = source.choice(TINCTURES)
+    if source.random() < 0.5:
+        return f"a {source.choice(ORDINARIES + CHARGES)} {tincture}"
+    return f"{source.choice(NUMBERS_OF_CHARGES)} {source.choice(CHARGES)}s {tincture}"
+
+
+def some_half(source, depth):
+    if depth < 6 and source.random() < 0.6:
+        return f"({some_arms(source, depth + 1)})"
+    return source.choice(TINCTURES)
+
+
+def some_arms(source, depth=1):
+    """A right text, out of a random source that the test has given its seed."""
+    field = source.choice(FIELDS)
+    if source.random() < 0.6:
+        parting = source.choice(PARTINGS + ["quarterly"] * 5)
+        field = f"{parting} {some_half(source, depth)} and {some_half(source, depth)}"
+    return ", ".join([field] + [some_item(source) for number in range(source.choice([0, 0, 1, 2, 3]))])

@@ -53,6 +53,17 @@ def bound_names(tree):
     return names
 
 
+def top_names(tree):
+    """The names that a file's top binds itself."""
+    names = []
+    for node in tree.body:
+        if isinstance(node, (ast.FunctionDef, ast.ClassDef)):
+            names.append(node.name)
+        elif isinstance(node, ast.Assign):
+            names.extend(target.id for target in node.targets)
+    return names
+
+
 class Form(unittest.TestCase):
     def test_there_are_files(self):
         self.assertIn("__init__.py", [path.name for path in FILES])
@@ -98,6 +109,50 @@ class Form(unittest.TestCase):
                     self.assertTrue(node.module.startswith("armstold."), (name, node.module))
                     self.assertIn(node, tree.body, name)
                     self.assertNotIn("*", [alias.name for alias in node.names], name)
+
+    def test_names_are_imported_from_where_they_are_defined(self):
+        tops = {}
+        drawn_from = {}
+        for name, tree in trees():
+            module = "armstold." + name.removesuffix(".py")
+            tops[module] = top_names(tree)
+            drawn_from[module] = [node for node in tree.body if isinstance(node, ast.ImportFrom)]
+        for module, rows in drawn_from.items():
+            for row in rows:
+                self.assertLessEqual({alias.name for alias in row.names}, set(tops[row.module]), module)
+        # Each time, the modules that draw from none that is left.
+        left = {module: {row.module for row in rows} for module, rows in drawn_from.items()}
+        while left:
+            free = [module for module in left if not left[module] & set(left)]
+            self.assertNotEqual(free, [], left)
+            left = {module: rest for module, rest in left.items() if module not in free}
+
+    def test_each_name_of_a_top_once(self):
+        for name, tree in trees():
+            names = top_names(tree)
+            self.assertEqual(len(names), len(set(names)), name)
+
+    def test_lists_and_dicts_of_a_top_hold_none(self):
+        for name, tree in trees():
+            for node in tree.body:
+                if isinstance(node, ast.Assign):
+                    inner = [part for part in ast.walk(node.value) if isinstance(part, (ast.List, ast.Dict, ast.Set))]
+                    self.assertLessEqual(len(inner), 1, (name, node.lineno))
+                    self.assertTrue(inner in ([], [node.value]), (name, node.lineno))
+
+    def test_locals_are_not_called_like_imports_and_classes(self):
+        for name, tree in trees():
+            taken = {alias.name for node in tree.body if isinstance(node, ast.ImportFrom) for alias in node.names}
+            taken |= {node.name for node in tree.body if isinstance(node, ast.ClassDef)}
+            for node in ast.walk(tree):
+                if isinstance(node, ast.FunctionDef):
+                    self.assertEqual(bound_names(node) & taken, set(), (name, node.name))
+
+    def test_no_stretch_of_a_list_is_assigned(self):
+        for name, tree in trees():
+            for node in ast.walk(tree):
+                if isinstance(node, ast.Subscript) and isinstance(node.slice, ast.Slice):
+                    self.assertIsInstance(node.ctx, ast.Load, (name, node.lineno))
 
     def test_names(self):
         for name, tree in trees():
