@@ -45,3 +45,12 @@ def bl_draw(wide, high, shield, text):
     except CannotStand as e:
         return [-3 - e.place]
     return [0] + drawn_cells(arms, wide, high, shield)
+
+
+def bl_count(wide, high, shield, text):
+    """Answers 0, then how many cells of bl_draw's have 0, 1, and so on to 9; or a refusal alone."""
+    drawn = bl_draw(wide, high, shield, text)
+    if drawn[0] < 0:
+        return drawn
+    cells = drawn[1:]
+    return [0] + [cells.count(tincture) for tincture in range(10)]
